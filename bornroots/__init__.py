@@ -1,0 +1,1 @@
+"""Bornroots: a file system that never writes over anything."""

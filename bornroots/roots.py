@@ -1,0 +1,97 @@
+"""Roots, volumes and the book of them (point 3 and the first paragraph of point 9 of the document)."""
+
+from bornroots.errors import NoRoot, NoSnap, NoVolume
+from bornroots.namecodes import need_name, root_text, root_words
+
+
+class Root:
+    """A root; it is never changed: what changes is a new Root in the book."""
+
+    def __init__(self, ident, volume, snap, prev, time, mark, top, dead):
+        self.ident = ident
+        self.volume = volume
+        self.snap = snap
+        self.prev = prev
+        self.time = time
+        self.mark = tuple(mark)
+        self.top = tuple(top)
+        self.dead = tuple(dead)
+
+
+class Volume:
+    """A volume: its name, its quota, and the ident of its head."""
+
+    def __init__(self, name, quota, head):
+        self.name = name
+        self.quota = quota
+        self.head = head
+
+
+class Book:
+    """The next ident, the volumes by the idents of their heads, the roots by their idents."""
+
+    def __init__(self):
+        self.next_id = 1
+        self.volumes = {}
+        self.roots = {}
+
+    def twin(self):
+        """A book with dicts of its own and the same volumes and roots."""
+        book = Book()
+        book.next_id = self.next_id
+        book.volumes = dict(self.volumes)
+        book.roots = dict(self.roots)
+        return book
+
+
+def volume_named(book, name):
+    """The volume of this name."""
+    need_name(name)
+    for head in book.volumes:
+        if book.volumes[head].name == name:
+            return book.volumes[head]
+    raise NoVolume(name)
+
+
+def root_named(book, text):
+    """The root of this text."""
+    vol, snap = root_words(text)
+    for root in chain_of(book, volume_named(book, vol)):
+        if root.snap == snap:
+            return root
+    raise NoRoot(text)
+
+
+def snap_named(book, text):
+    """The snapshot of this text."""
+    root = root_named(book, text)
+    if root.snap is None:
+        raise NoSnap(text)
+    return root
+
+
+def text_of(book, root):
+    """The text of a root."""
+    return root_text(book.volumes[root.volume].name, root.snap)
+
+
+def chain_of(book, volume):
+    """The list of the roots of a volume: its snapshots by time, its head last."""
+    roots = [book.roots[ident] for ident in sorted(book.roots) if book.roots[ident].volume == volume.head]
+    snaps = [root for root in roots if root.snap is not None]
+    return [*sorted(snaps, key=lambda root: root.time), book.roots[volume.head]]
+
+
+def origin_of(book, volume):
+    """The snapshot of another volume from which a volume was made, or None."""
+    return book.roots.get(chain_of(book, volume)[0].prev)
+
+
+def children_of(book, root):
+    """The list of the roots that were made from a root, by ident."""
+    return [book.roots[ident] for ident in sorted(book.roots) if book.roots[ident].prev == root.ident]
+
+
+def edge_of(book, root):
+    """The time of the root from which a root was made, 0 without one."""
+    return 0 if root.prev == 0 else book.roots[root.prev].time

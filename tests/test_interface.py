@@ -1,0 +1,57 @@
+"""Names, arguments and defaults of the interface, and that each stands in its own file and class."""
+
+import importlib
+import inspect
+import unittest
+
+LISTED = {
+    "errors": ["Refused(what)"],
+    "rows": ["check_of(numbers)", "made_row(kind, place, number, payload)", "is_good(row)",
+             "fits(row, kind, place, number=None)", "half_of(row)", "payload_of(row)"],
+    "namecodes": ["is_name(text)", "need_name(text)", "name_number(name)", "name_of(number)", "root_words(text)",
+                  "root_text(vol, snap)"],
+    "power": ["digit_of(mask, j)", "left_by(row, before, digit)"],
+    "drives": ["Drives(many, room)", "Drives.cell(drive, place)", "Drives.put(place, row, *, only=None)",
+               "Drives.flush()", "Drives.arm(count, mask)", "Drives.cut()", "Drives.has_power()", "Drives.owner()",
+               "Drives.start()", "Drives.is_on(drive)", "Drives.drives_on()", "Drives.turn(drive, on)",
+               "Drives.fitting(kind, place, number, *, only=None)", "Drives.pending()", "Drives.begun()",
+               "Drives.await_fault(drive, place, other)", "Drives.lay(drive, place, row)", "Drives.blank(drive)"],
+    "faults": ["rot(drives, drive, place, at, by)", "lose(drives, drive, place)", "stray(drives, drive, place, other)",
+               "wipe(drives, drive)"],
+    "layout": ["head_place(area)", "page_place(area, i)", "log_place(i)", "next_area(area)", "tree_places(room)",
+               "is_tree_place(place, room)"],
+    "roots": ["Root(ident, volume, snap, prev, time, mark, top, dead)", "Volume(name, quota, head)", "Book()",
+              "Book.twin()", "volume_named(book, name)", "root_named(book, text)", "snap_named(book, text)",
+              "text_of(book, root)", "chain_of(book, volume)", "origin_of(book, volume)", "children_of(book, root)",
+              "edge_of(book, root)"],
+    "bookrows": ["book_numbers(book)", "book_of(numbers)", "pages_of(numbers)", "need_fitting(book)"],
+}
+
+
+def signature_of(thing, is_method):
+    told = inspect.signature(thing)
+    if is_method:
+        told = told.replace(parameters=list(told.parameters.values())[1:])
+    return str(told)
+
+
+class InterfaceTest(unittest.TestCase):
+    def test_all_that_is_listed(self):
+        for name, listed in LISTED.items():
+            module = importlib.import_module(f"bornroots.{name}")
+            for line in listed:
+                with self.subTest(module=name, line=line):
+                    self.check(module, line)
+
+    def check(self, module, line):
+        head, _, told = line.partition("(")
+        words = head.split(".")
+        thing = vars(module)[words[0]]
+        self.assertEqual(thing.__module__, module.__name__)
+        if len(words) == 2:
+            thing = vars(thing)[words[1]]
+        self.assertEqual(signature_of(thing, len(words) == 2), "(" + told)
+
+
+if __name__ == "__main__":
+    unittest.main()
