@@ -77,9 +77,9 @@ def text_of(book, root):
 
 def chain_of(book, volume):
     """The list of the roots of a volume: its snapshots by time, its head last."""
-    roots = [book.roots[ident] for ident in sorted(book.roots) if book.roots[ident].volume == volume.head]
-    snaps = [root for root in roots if root.snap is not None]
-    return [*sorted(snaps, key=lambda root: root.time), book.roots[volume.head]]
+    roots = [root for root in book.roots.values() if root.volume == volume.head]
+    snaps = sorted([root for root in roots if root.snap is not None], key=lambda root: root.time)
+    return [*snaps, book.roots[volume.head]]
 
 
 def origin_of(book, volume):

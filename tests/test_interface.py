@@ -25,6 +25,20 @@ LISTED = {
               "text_of(book, root)", "chain_of(book, volume)", "origin_of(book, volume)", "children_of(book, root)",
               "edge_of(book, root)"],
     "bookrows": ["book_numbers(book)", "book_of(numbers)", "pages_of(numbers)", "need_fitting(book)"],
+    "headrows": ["page_rows(area, number, numbers)", "head_row(area, number, tag, many, room, ahead, pages)",
+                 "head_told(row)", "book_found(drives, area, number, pages)"],
+    "keys": ["block_of(level, key)", "stretch_of(level, number)", "node_of(key)", "key_of(node, place)"],
+    "treeplan": ["Tree(places, records)", "Tree.top()", "Tree.pairs()", "unlike_keys(old, new)",
+                 "changed(tree, records)", "grown(tree, records, cells, number)", "size_of(records)"],
+    "treewalk": ["walked(drives, top, *, only=None)"],
+    "paths": ["names_of(path)"],
+    "nodes": ["head_of(records, node)", "keys_of_node(records, node)", "free_node(records)", "empty_volume()"],
+    "folders": ["bucket_of(name)", "entry_of(records, node, name)", "names_in(records, node)",
+                "is_full(records, node, name)", "with_entry(records, node, name, target)",
+                "without_entry(records, node, name)"],
+    "walkpath": ["walk(records, path)", "upper(records, path)"],
+    "deedsmake": ["with_folder(records, path)", "with_file(records, path)", "with_link(records, path, other)",
+                  "without_name(records, path)"],
 }
 
 
