@@ -1,9 +1,16 @@
-"""The one question that most forms of arguments come down to."""
+"""The questions that most forms of arguments come down to."""
 
 from bornroots.errors import BadNumber
+
+MOST_QUOTA = 1000
 
 
 def need_within(number, least, most):
     """Raise BadNumber(number) unless it is from least to most."""
     if not least <= number <= most:
         raise BadNumber(number)
+
+
+def need_quota(quota):
+    """Raise BadNumber(quota) unless a volume may have this quota."""
+    need_within(quota, 0, MOST_QUOTA)

@@ -1,11 +1,11 @@
 """The deeds that make folders, files and links, and unlink (point 6 of the document)."""
 
-from bornroots.errors import FolderFull, IsFolder, NoNode, NotEmpty, Taken, TopFolder
+from bornroots.errors import FolderFull, NoNode, NotEmpty, Taken, TopFolder
 from bornroots.folders import entry_of, is_full, names_in, with_entry, without_entry
 from bornroots.keys import key_of
 from bornroots.nodes import FILE, FOLDER, free_node, head_of, is_folder, keys_of_node
 from bornroots.paths import names_of
-from bornroots.walkpath import upper, walk
+from bornroots.walkpath import upper, walk, walk_file
 
 
 def with_folder(records, path):
@@ -22,13 +22,11 @@ def with_file(records, path):
 def with_link(records, path, other):
     """New records in which other is an entry of the file of path, too."""
     names_of(path)
-    _need_not_top(other)
-    node = walk(records, path)
-    if is_folder(records, node):
-        raise IsFolder(path)
+    need_not_top(other)
+    node = walk_file(records, path)
     parent, name = upper(records, other)
-    _need_untaken(records, parent, name, other)
-    _need_bucket(records, parent, name, other)
+    need_untaken(records, parent, name, other)
+    need_bucket(records, parent, name, other)
     told = with_entry(records, parent, name, node)
     told[key_of(node, 0)] = _head_with_links(records, node, 1)
     return told
@@ -36,7 +34,7 @@ def with_link(records, path, other):
 
 def without_name(records, path):
     """New records without the entry of path, and without its node if nothing leads there any more."""
-    _need_not_top(path)
+    need_not_top(path)
     node = walk(records, path)
     if is_folder(records, node) and names_in(records, node):
         raise NotEmpty(path)
@@ -50,32 +48,34 @@ def without_name(records, path):
     return {key: told[key] for key in told if key not in gone}
 
 
-def _need_not_top(path):
+def need_not_top(path):
     """Raise BadPath(path) for what is no path, TopFolder(path) for /."""
     if not names_of(path):
         raise TopFolder(path)
 
 
-def _with_node(records, path, head):
-    parent, name = upper(records, path)
-    _need_untaken(records, parent, name, path)
-    node = free_node(records)
-    if node is None:
-        raise NoNode(path)
-    _need_bucket(records, parent, name, path)
-    told = with_entry(records, parent, name, node)
-    told[key_of(node, 0)] = head
-    return (told, node)
-
-
-def _need_untaken(records, parent, name, path):
+def need_untaken(records, parent, name, path):
+    """Raise Taken(path) if the folder has an entry of this name."""
     if entry_of(records, parent, name) is not None:
         raise Taken(path)
 
 
-def _need_bucket(records, parent, name, path):
+def need_bucket(records, parent, name, path):
+    """Raise FolderFull(path) if the folder has no room for an entry of this name."""
     if is_full(records, parent, name):
         raise FolderFull(path)
+
+
+def _with_node(records, path, head):
+    parent, name = upper(records, path)
+    need_untaken(records, parent, name, path)
+    node = free_node(records)
+    if node is None:
+        raise NoNode(path)
+    need_bucket(records, parent, name, path)
+    told = with_entry(records, parent, name, node)
+    told[key_of(node, 0)] = head
+    return (told, node)
 
 
 def _head_with_links(records, node, more):

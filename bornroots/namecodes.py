@@ -36,6 +36,12 @@ def name_of(number):
     return name
 
 
+def is_name_number(number):
+    """Whether some name has this number."""
+    name = name_of(number)
+    return is_name(name) and name_number(name) == number
+
+
 def root_words(text):
     """The volume's name and the snapshot's, or None for a head, of a root's text."""
     words = text.split("@") if isinstance(text, str) else []

@@ -1,7 +1,9 @@
 """Roots, volumes and the book of them (point 3 and the first paragraph of point 9 of the document)."""
 
-from bornroots.errors import NoRoot, NoSnap, NoVolume
+from bornroots.errors import NoRoot, NoSnap, NoVolume, Taken
 from bornroots.namecodes import need_name, root_text, root_words
+
+NO_MARK = (0, 0)
 
 
 class Root:
@@ -42,6 +44,32 @@ class Book:
         book.volumes = dict(self.volumes)
         book.roots = dict(self.roots)
         return book
+
+
+def remade(root, *, prev=None, top=None, dead=None):
+    """A root like this one but for what is told."""
+    return Root(root.ident, root.volume, root.snap, root.prev if prev is None else prev, root.time, root.mark,
+                root.top if top is None else top, root.dead if dead is None else dead)
+
+
+def add_volume(book, name, quota, prev, top):
+    """Put a new volume and its head into a book, and tell the ident of both."""
+    ident = book.next_id
+    book.next_id = ident + 1
+    book.volumes[ident] = Volume(name, quota, ident)
+    book.roots[ident] = Root(ident, ident, None, prev, 0, NO_MARK, top, ())
+    return ident
+
+
+def need_untaken_name(book, name):
+    """Raise Taken(name) if a volume of the book has this name."""
+    if name in [volume.name for volume in book.volumes.values()]:
+        raise Taken(name)
+
+
+def head_of_volume(book, name):
+    """The head of the volume of this name, a Root."""
+    return book.roots[volume_named(book, name).head]
 
 
 def volume_named(book, name):

@@ -1,6 +1,6 @@
 """Where paths lead (point 5 of the document)."""
 
-from bornroots.errors import NoName, NotFolder, TopFolder
+from bornroots.errors import IsFolder, NoName, NotFolder, TopFolder
 from bornroots.folders import entry_of
 from bornroots.nodes import is_folder
 from bornroots.paths import names_of
@@ -9,6 +9,14 @@ from bornroots.paths import names_of
 def walk(records, path):
     """The node to which a path leads."""
     return _walk_names(records, names_of(path), path)
+
+
+def walk_file(records, path):
+    """The node of the file to which a path leads."""
+    node = walk(records, path)
+    if is_folder(records, node):
+        raise IsFolder(path)
+    return node
 
 
 def upper(records, path):

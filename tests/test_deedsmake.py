@@ -6,24 +6,8 @@ from bornroots.folders import names_in
 from bornroots.nodes import head_of
 from bornroots.walkpath import walk
 
+from records import NO_PATHS, ONE_BUCKET, TOP, made
 from refusals import Text, refusal
-
-TOP = {0: (2, 0)}
-ONE_BUCKET = ["a", "h", "o", "v", "ab", "ai", "ap", "aw", "aaab"]
-NO_PATHS = ("", "a", "/a/", "//a", "/A", "/abcde", "/a/b/c/d/e/f/g", None, 7, ["/a"])
-
-
-def made(*lines):
-    """Records behind making what each line tells: a path with / at its end is a folder, a=b links b to a."""
-    records = dict(TOP)
-    for line in lines:
-        if "=" in line:
-            records = with_link(records, *line.split("="))
-        elif line.endswith("/"):
-            records = with_folder(records, line[:-1])[0]
-        else:
-            records = with_file(records, line)[0]
-    return records
 
 
 def files_in(path, many):

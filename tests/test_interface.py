@@ -39,6 +39,21 @@ LISTED = {
     "walkpath": ["walk(records, path)", "upper(records, path)"],
     "deedsmake": ["with_folder(records, path)", "with_file(records, path)", "with_link(records, path, other)",
                   "without_name(records, path)"],
+    "deedsmove": ["with_move(records, path, other)"],
+    "deedsdata": ["with_values(records, path, at, values)", "with_length(records, path, length)",
+                  "need_span(at, values)", "need_length(length)"],
+    "looks": ["values_at(records, path, at, many)", "names_at(records, path)", "told_at(records, path)",
+              "need_window(at, many)"],
+    "sound": ["is_sound(records)"],
+    "space": ["Standing(number, area, ahead, book, trees, used)", "reached(standing)",
+              "free_places(room, standing, elder)", "written_pairs(standing, root)", "used_by(standing, volume)",
+              "parted(pairs, edge)"],
+    "state": ["Pool(drives, tag, root, elder, last)", "Pool.need_running()", "Pool.records_of(root)"],
+    "plan": ["Step(standing, rows)", "content_step(standing, elder, last, room, drafts, *, finish=None)",
+             "book_step(standing, last, book, trees, gone)", "behind_open(pool)"],
+    "commit": ["carry(pool, step)", "commit(pool, *, always=False)", "do_roots(pool, make)"],
+    "deedlog": ["log_row(number, i, head, old, new)", "log_told(row)", "put_log(pool, head, old, new)",
+                "log_found(drives, number)", "has_log(drives, number)"],
 }
 
 
