@@ -22,11 +22,11 @@ def values_of(records, node):
 
 
 def with_values_of(records, node, values):
-    """New records in which a file has just these values."""
+    """New records in which a file has just the values of this list."""
     told = {key: records[key] for key in records}
     kind, links, _ = head_of(records, node)
     told[key_of(node, 0)] = (kind, links, len(values))
-    padded = list(values) + [0] * (MOST_VALUES - len(values))
+    padded = values + [0] * (MOST_VALUES - len(values))
     for place in range(1, FAN):
         begin = PLACE_VALUES * (place - 1)
         record = tuple(padded[begin:begin + PLACE_VALUES])

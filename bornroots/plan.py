@@ -54,7 +54,7 @@ def behind_open(pool):
 
 def open_drafts(pool):
     """The dict from each head with open deeds to the records of its last one."""
-    return {head: dict(records) for head, records in pool.opened}
+    return {head: records for head, records in pool.opened}
 
 
 def without_pairs(used, gone):

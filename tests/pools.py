@@ -1,10 +1,12 @@
 """Pools for tests, made without the deeds of later modules, and a plain check of what a pool keeps to."""
 
+from bornroots.bookrows import book_numbers
 from bornroots.commit import commit, do_roots, put_step
 from bornroots.deedlog import put_log
 from bornroots.deedsdata import with_values
 from bornroots.deedsmake import with_file
 from bornroots.drives import Drives
+from bornroots.namecodes import name_of
 from bornroots.plan import Step, book_step, content_step
 from bornroots.rows import fits
 from bornroots.roots import Book, Root, Volume, volume_named
@@ -93,6 +95,44 @@ def example_pool(many=1, snap=False, written=False):
         open_deed(pool, "a", with_values, "/f", 0, [5])
         commit(pool)
     return pool
+
+
+def filled(standing, numbers):
+    """The standing with more volumes and snapshots, so that its book has just so many numbers."""
+    book, trees = standing.book.twin(), dict(standing.trees)
+    rest = numbers - len(book_numbers(book))
+    many = 1 if rest % 2 == 1 else 2
+    first = book.next_id
+    for at in range(many):
+        book.volumes[first + at] = Volume(name_of(600 + at), 0, first + at)
+        book.roots[first + at] = Root(first + at, first + at, None, 0, 0, (0, 0), (0, 0), ())
+    snaps, pairs = divmod(rest - 13 * many, 10)
+    for at in range(snaps):
+        ident = first + many + at
+        dead = [(41, 1)] * (pairs // 2) if at == 0 else ()
+        book.roots[ident] = Root(ident, first, name_of(600 + at), 0, at + 1, (7, at + 1), (0, 0), dead)
+    book.next_id = first + many + snaps
+    trees.update({ident: Tree({}, {}) for ident in book.roots if ident not in trees})
+    told = Standing(standing.number, standing.area, standing.ahead, book, trees, standing.used)
+    assert len(book_numbers(told.book)) == numbers
+    return told
+
+
+class Told:
+    """Drives that tell what is asked of them: (place, row) of each put, "flush" of each flush."""
+
+    def __init__(self, drives):
+        self.lines = []
+        self.put_row, self.flush_all = drives.put, drives.flush
+        drives.put, drives.flush = self.put, self.flush
+
+    def put(self, place, row, *, only=None):
+        self.lines.append((place, row) if only is None else (place, row, only))
+        self.put_row(place, row, only=only)
+
+    def flush(self):
+        self.lines.append("flush")
+        self.flush_all()
 
 
 def cells(drives):

@@ -23,6 +23,12 @@ def made(*lines):
     return records
 
 
+def files_in(path, many):
+    """Paths of so many files in a folder, no bucket of which gets too full."""
+    letters = "abcdefghijklmnopqrstuvwxyz"
+    return [f"{path}/{letters[at // 26 % 26]}{letters[at % 26]}" for at in range(many)]
+
+
 DEEDS = {"file": with_file, "folder": with_folder, "link": with_link, "unlink": without_name, "move": with_move,
          "write": with_values, "cut": with_length}
 

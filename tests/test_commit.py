@@ -12,26 +12,9 @@ from bornroots.space import Standing
 from bornroots.treewalk import walked
 
 from books import seen
-from pools import (all_seen, cells, check_pool, contents, example_pool, head_root, new_pool, open_deed, pool_seen,
+from pools import (Told, all_seen, cells, check_pool, contents, example_pool, head_root, new_pool, open_deed, pool_seen,
                    put_quota, put_snapshot, put_volume, standing_seen)
 from refusals import OFF, refusal
-
-
-class Told:
-    """Drives that tell what is asked of them: (place, row) of each put, "flush" of each flush."""
-
-    def __init__(self, drives):
-        self.lines = []
-        self.put_row, self.flush_all = drives.put, drives.flush
-        drives.put, drives.flush = self.put, self.flush
-
-    def put(self, place, row, *, only=None):
-        self.lines.append((place, row) if only is None else (place, row, only))
-        self.put_row(place, row, only=only)
-
-    def flush(self):
-        self.lines.append("flush")
-        self.flush_all()
 
 
 def same_book(pool):
@@ -130,7 +113,8 @@ class CommitTest(unittest.TestCase):
         self.assertEqual(commit(pool), 21)
         self.assertEqual((pool.root.ahead, pool.root.area, pool.last), (3, 0, 21))
         put_snapshot(pool, "a", "s")
-        self.assertEqual((pool.root.number, pool.root.book.roots[2].time, pool.root.book.roots[2].mark), (22, 22, (7, 22)))
+        snap = pool.root.book.roots[2]
+        self.assertEqual((pool.root.number, snap.time, snap.mark), (22, 22, (7, 22)))
 
     def test_without_open_deeds(self):
         pool = example_pool(snap=True)

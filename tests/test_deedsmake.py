@@ -6,14 +6,8 @@ from bornroots.folders import names_in
 from bornroots.nodes import head_of
 from bornroots.walkpath import walk
 
-from records import NO_PATHS, ONE_BUCKET, TOP, made
+from records import NO_PATHS, ONE_BUCKET, TOP, files_in, made
 from refusals import Text, refusal
-
-
-def files_in(path, many):
-    """Paths of so many files in a folder, no bucket of which gets too full."""
-    letters = "abcdefghijklmnopqrstuvwxyz"
-    return [f"{path}/{letters[at // 26 % 26]}{letters[at % 26]}" for at in range(many)]
 
 
 class MakingTest(unittest.TestCase):

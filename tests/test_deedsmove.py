@@ -58,7 +58,8 @@ class MoveTest(unittest.TestCase):
     def test_walks(self):
         records = made("/d/", "/f")
         for path, other, told in (
-                ("/x", "/y/z", ("NoName", "/x")), ("/d/x", "/f", ("NoName", "/d/x")), ("/x/y", "/a", ("NoName", "/x/y")),
+                ("/x", "/y/z", ("NoName", "/x")), ("/d/x", "/f", ("NoName", "/d/x")),
+                ("/x/y", "/a", ("NoName", "/x/y")),
                 ("/f/x", "/y/z", ("NotFolder", "/f/x")), ("/f/x/y", "/d", ("NotFolder", "/f/x/y")),
                 ("/f", "/y/z", ("NoName", "/y/z")), ("/f", "/d/y/z", ("NoName", "/d/y/z")),
                 ("/d", "/f/z", ("NotFolder", "/f/z")), ("/f", "/f/z", ("NotFolder", "/f/z")),

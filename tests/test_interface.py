@@ -54,6 +54,17 @@ LISTED = {
     "commit": ["carry(pool, step)", "commit(pool, *, always=False)", "do_roots(pool, make)"],
     "deedlog": ["log_row(number, i, head, old, new)", "log_told(row)", "put_log(pool, head, old, new)",
                 "log_found(drives, number)", "has_log(drives, number)"],
+    "desk": ["make_folder(pool, vol, path)", "make_file(pool, vol, path)", "link(pool, vol, path, other)",
+             "unlink(pool, vol, path)", "move(pool, vol, path, other)", "write(pool, vol, path, at, values)",
+             "cut_to(pool, vol, path, length)"],
+    "views": ["read(pool, root, path, at, many)", "names(pool, root, path)", "told(pool, root, path)"],
+    "promised": ["promised_rows(pool)"],
+    "mends": ["mend(drives, rows, goals, sources)"],
+    "heads": ["heads_found(drives)", "last_number(drives)", "standing_at(drives, number, area)"],
+    "mount": ["made_pool(drives, *, tag=0)", "mount(drives, *, elder=False)"],
+    "salvage": ["salvage(drives)"],
+    "volumes": ["make_volume(pool, name, *, quota=0)", "set_quota(pool, vol, quota)", "destroy(pool, vol)"],
+    "snapshots": ["snapshot(pool, vol, snap)", "clone(pool, root, name, *, quota=0)", "rollback(pool, vol)"],
 }
 
 

@@ -2,7 +2,7 @@ import itertools
 import string
 import unittest
 
-from bornroots.namecodes import is_name, name_number, name_of, need_name, root_text, root_words
+from bornroots.namecodes import is_name, is_name_number, name_number, name_of, need_name, root_text, root_words
 
 from refusals import Text, refusal
 
@@ -48,6 +48,13 @@ class NamecodesTest(unittest.TestCase):
         self.assertEqual(len(numbers), 26 + 26 ** 2 + 26 ** 3)
         for letters in itertools.product("amz", repeat=4):
             self.assertEqual(name_of(name_number("".join(letters))), "".join(letters))
+
+    def test_numbers_that_some_name_has(self):
+        names = {name_number("".join(letters)) for many in (1, 2)
+                 for letters in itertools.product(string.ascii_lowercase, repeat=many)}
+        self.assertEqual([number for number in range(27 * 27 + 27) if is_name_number(number)], sorted(names))
+        for number, told in ((20440, True), (531440, True), (531441, False), (551881, False), (1000002, False)):
+            self.assertIs(is_name_number(number), told)
 
     def test_root_words(self):
         self.assertEqual(root_words("a"), ("a", None))

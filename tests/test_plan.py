@@ -3,16 +3,14 @@ import unittest
 from bornroots.bookrows import book_numbers
 from bornroots.deedsdata import with_values
 from bornroots.deedsmake import with_file, with_folder
-from bornroots.namecodes import name_of
 from bornroots.plan import Step, behind_open, book_step, content_step
 from bornroots.roots import Root, Volume
 from bornroots.rows import BRANCH, LEAF, made_row
 from bornroots.space import Standing
-from bornroots.treeplan import Tree
 
 from books import seen
-from pools import (all_seen, check_standing, example_pool, head_root, new_pool, open_deed, pool_seen, put_snapshot,
-                   put_volume, standing_seen, with_new_head)
+from pools import (all_seen, check_standing, example_pool, filled, head_root, new_pool, open_deed, pool_seen,
+                   put_snapshot, put_volume, standing_seen, with_new_head)
 from refusals import refusal
 
 EMPTY = {0: (2, 0)}
@@ -27,27 +25,6 @@ def branch(address, birth, *pairs):
 
 def leaf(address, birth, *record):
     return (address, made_row(LEAF, address, birth, record))
-
-
-def filled(standing, numbers):
-    """The standing with more volumes and snapshots, so that its book has just so many numbers."""
-    book, trees = standing.book.twin(), dict(standing.trees)
-    rest = numbers - len(book_numbers(book))
-    many = 1 if rest % 2 == 1 else 2
-    first = book.next_id
-    for at in range(many):
-        book.volumes[first + at] = Volume(name_of(600 + at), 0, first + at)
-        book.roots[first + at] = Root(first + at, first + at, None, 0, 0, (0, 0), (0, 0), ())
-    snaps, pairs = divmod(rest - 13 * many, 10)
-    for at in range(snaps):
-        ident = first + many + at
-        dead = [(41, 1)] * (pairs // 2) if at == 0 else ()
-        book.roots[ident] = Root(ident, first, name_of(600 + at), 0, at + 1, (7, at + 1), (0, 0), dead)
-    book.next_id = first + many + snaps
-    trees.update({ident: Tree({}, {}) for ident in book.roots if ident not in trees})
-    told = Standing(standing.number, standing.area, standing.ahead, book, trees, standing.used)
-    assert len(book_numbers(told.book)) == numbers
-    return told
 
 
 def step_of(pool, drafts, **named):
@@ -289,8 +266,9 @@ class FinishTest(unittest.TestCase):
         for numbers, told in ((582, None), (583, ("BookFull", 601))):
             full = filled(pool.root, numbers)
             self.assertEqual(refusal(content_step, full, pool.elder, 4, 40, {1: WRITTEN}, finish=finish), told)
-        smaller = lambda told: pool.root
-        self.assertIsNone(refusal(content_step, filled(pool.root, 600), pool.elder, 4, 40, {1: WRITTEN}, finish=smaller))
+        # What finish tells is asked, not what it was told.
+        self.assertIsNone(refusal(content_step, filled(pool.root, 600), pool.elder, 4, 40, {1: WRITTEN},
+                                  finish=lambda told: pool.root))
 
 
 class BookStepTest(unittest.TestCase):

@@ -65,11 +65,14 @@ class SoundTest(unittest.TestCase):
     def test_buckets(self):
         self.broken({2: (8,)})
         self.broken({2: (8, 4, 1)})
+        self.broken({2: (1, 4, 8)})
         self.broken({2: (9, 4)})                       # the name i, in the bucket of h
         self.broken({2: (0, 4)})
         self.broken({2: (27, 4)})                      # no name has a letter of the value 0
         self.broken({2: (54, 4)})
-        self.broken({2: (531441 + 7, 4)})              # five letters
+        self.broken({5: (27, 4, 4, 1)}, [2])           # as az it would stand in its own bucket, ahead of d
+        self.broken({2: (531441 + 7, 4)})
+        self.broken({2: (551881, 4)})                  # five letters, all of them a, in their own bucket
         self.broken({2: (999999, 4)})
         self.broken({2: (8, 4, 1, 4), 32: (1, 2, 0)})  # h ahead of a
         self.broken({2: (8, 4, 8, 4), 32: (1, 2, 0)})  # h twice

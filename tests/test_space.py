@@ -64,7 +64,8 @@ class PairsTest(unittest.TestCase):
         self.assertEqual(written_pairs(standing, standing.book.roots[2]), OF_SNAP)
 
     def test_the_edge_itself_is_not_written(self):
-        book = book_with(3, [("a", 0, 1)], [(1, 1, None, 2, 0, (0, 0), (50, 6), ()), (2, 1, "s", 0, 5, (7, 5), (50, 5), ())])
+        book = book_with(3, [("a", 0, 1)], [(1, 1, None, 2, 0, (0, 0), (50, 6), ()),
+                                            (2, 1, "s", 0, 5, (7, 5), (50, 5), ())])
         trees = {1: flat(6, [(50, 6), (43, 5), (42, 4), (41, 6)]), 2: flat(5, [(43, 5), (42, 1)])}
         standing = Standing(6, 0, 5, book, trees, {})
         self.assertEqual(written_pairs(standing, book.roots[1]), [(41, 6), (50, 6)])
