@@ -3,6 +3,7 @@
 from bornroots.errors import BadNumber
 
 MOST_QUOTA = 1000
+MOST_TAG = 999
 
 
 def need_within(number, least, most):

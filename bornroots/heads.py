@@ -6,7 +6,7 @@ from bornroots.headrows import book_found, head_told
 from bornroots.layout import AREAS, FIRST_TREE, head_place
 from bornroots.rows import HEAD, fits, is_good
 from bornroots.space import Standing, used_of
-from bornroots.treewalk import walked
+from bornroots.treewalk import book_walked
 
 
 def heads_found(drives):
@@ -54,12 +54,7 @@ def book_at(drives, number, area):
 def standing_at(drives, number, area):
     """(Standing, None) of a transaction, or (None, the least address of a block that fits on no drive)."""
     book = book_at(drives, number, area)
-    trees = {}
-    lost = []
-    for ident in book.roots:
-        tree, gone = walked(drives, book.roots[ident].top)
-        trees[ident] = tree
-        lost.extend([block[0] for block in gone])
+    trees, lost = book_walked(drives, book)
     if lost:
         return (None, min(lost))
     return (Standing(number, area, head_at(drives, number, area)[3], book, trees, used_of(trees)), None)

@@ -1,6 +1,6 @@
 """How a pool is made, and how it is taken up again (points 8 to 8.3 of the document)."""
 
-from bornroots.bounds import need_within
+from bornroots.bounds import MOST_TAG, need_within
 from bornroots.commit import carry, put_step
 from bornroots.deedlog import has_log, log_found
 from bornroots.errors import Broken, NoElder
@@ -13,8 +13,6 @@ from bornroots.promised import promised_rows
 from bornroots.roots import Book
 from bornroots.space import Standing
 from bornroots.state import Pool
-
-MOST_TAG = 999
 
 
 def made_pool(drives, *, tag=0):

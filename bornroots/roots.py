@@ -46,9 +46,10 @@ class Book:
         return book
 
 
-def remade(root, *, prev=None, top=None, dead=None):
+def remade(root, *, volume=None, prev=None, top=None, dead=None):
     """A root like this one but for what is told."""
-    return Root(root.ident, root.volume, root.snap, root.prev if prev is None else prev, root.time, root.mark,
+    return Root(root.ident, root.volume if volume is None else volume, root.snap,
+                root.prev if prev is None else prev, root.time, root.mark,
                 root.top if top is None else top, root.dead if dead is None else dead)
 
 
@@ -61,10 +62,25 @@ def add_volume(book, name, quota, prev, top):
     return ident
 
 
+def add_snapshot(book, head, snap, time, mark):
+    """Put a new snapshot between a head and its prev into a book, and tell its ident."""
+    ident = book.next_id
+    book.next_id = ident + 1
+    book.roots[ident] = Root(ident, head.ident, snap, head.prev, time, mark, head.top, head.dead)
+    book.roots[head.ident] = remade(head, prev=ident, dead=())
+    return ident
+
+
 def need_untaken_name(book, name):
     """Raise Taken(name) if a volume of the book has this name."""
     if name in [volume.name for volume in book.volumes.values()]:
         raise Taken(name)
+
+
+def need_untaken_snap(book, volume, snap):
+    """Raise Taken(snap) if a snapshot of the volume has this name."""
+    if snap in [root.snap for root in chain_of(book, volume)]:
+        raise Taken(snap)
 
 
 def head_of_volume(book, name):
@@ -93,9 +109,14 @@ def root_named(book, text):
 def snap_named(book, text):
     """The snapshot of this text."""
     root = root_named(book, text)
+    need_snap(root, text)
+    return root
+
+
+def need_snap(root, text):
+    """Raise NoSnap(text) if the root, the text of which was handed in, is a head."""
     if root.snap is None:
         raise NoSnap(text)
-    return root
 
 
 def text_of(book, root):

@@ -2,10 +2,11 @@
 
 from bornroots.bounds import need_quota
 from bornroots.commit import do_freeing, do_roots
-from bornroots.errors import NoSnap, Taken
+from bornroots.errors import NoSnap
 from bornroots.namecodes import need_name, root_words
 from bornroots.plan import book_step
-from bornroots.roots import Root, add_volume, head_of_volume, need_untaken_name, remade, snap_named
+from bornroots.roots import add_snapshot, add_volume, head_of_volume, need_untaken_name, need_untaken_snap, remade
+from bornroots.roots import snap_named
 from bornroots.space import written_pairs
 
 
@@ -18,13 +19,8 @@ def snapshot(pool, vol, snap):
     def make(standing, elder, last):
         head = head_of_volume(standing.book, vol)
         book = standing.book.twin()
-        if snap in [root.snap for root in book.roots.values() if root.volume == head.ident]:
-            raise Taken(snap)
-        ident = book.next_id
-        number = last + 1
-        book.next_id = ident + 1
-        book.roots[ident] = Root(ident, head.ident, snap, head.prev, number, (pool.tag, number), head.top, head.dead)
-        book.roots[head.ident] = remade(head, prev=ident, dead=())
+        need_untaken_snap(book, book.volumes[head.ident], snap)
+        ident = add_snapshot(book, head, snap, last + 1, (pool.tag, last + 1))
         trees = {**standing.trees, ident: standing.trees[head.ident]}
         return book_step(standing, last, book, trees, [])
 

@@ -31,6 +31,17 @@ def walked(drives, top, *, only=None):
     return (Tree(places, records), lost)
 
 
+def book_walked(drives, book, *, only=None):
+    """The dict of the trees of all roots of a book by ident, and the list of the addresses of their lost blocks."""
+    trees = {}
+    lost = []
+    for ident in book.roots:
+        tree, gone = walked(drives, book.roots[ident].top, only=only)
+        trees[ident] = tree
+        lost.extend([block[0] for block in gone])
+    return (trees, lost)
+
+
 def _payload_at(drives, level, pair, only):
     address, birth = pair
     # No cell has an address beyond the last one: such a block is lost, it is no fault of the caller.

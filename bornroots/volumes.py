@@ -18,11 +18,7 @@ def make_volume(pool, name, *, quota=0):
     need_quota(quota)
 
     def make(standing, elder, last):
-        need_untaken_name(standing.book, name)
-        book = standing.book.twin()
-        head = add_volume(book, name, quota, 0, NO_PAIR)
-        trees = {**standing.trees, head: Tree({}, {})}
-        begun = Standing(standing.number, standing.area, standing.ahead, book, trees, standing.used)
+        begun, head = with_new_volume(standing, name, quota)
         return content_step(begun, elder, last, pool.drives.room, {head: empty_volume()})
 
     return do_roots(pool, make).book.next_id - 1
@@ -61,3 +57,12 @@ def destroy(pool, vol):
         return book_step(standing, last, book, standing.trees, gone)
 
     return do_freeing(pool, make)
+
+
+def with_new_volume(standing, name, quota):
+    """A standing with one more volume, which has no records yet, and the ident of its head; Taken(name)."""
+    need_untaken_name(standing.book, name)
+    book = standing.book.twin()
+    head = add_volume(book, name, quota, 0, NO_PAIR)
+    trees = {**standing.trees, head: Tree({}, {})}
+    return (Standing(standing.number, standing.area, standing.ahead, book, trees, standing.used), head)

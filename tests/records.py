@@ -51,6 +51,7 @@ class Table:
 
     def __init__(self):
         self.things = {"/": None}
+        self.mark = (0, 0)
 
     def twin(self):
         """Another table with the same paths, files with several names being one file there, too."""

@@ -5,21 +5,22 @@ import unittest
 
 from bornroots.drives import Drives
 from bornroots.faults import lose, rot, stray, wipe
-from bornroots.mount import made_pool, mount
+from bornroots.mount import mount
 from bornroots.promised import promised_rows
 from bornroots.rows import fits, is_good
 
-from histories import FILES, Plain, call, pool_told
-from pools import all_seen, check_pool
-from refusals import refusal
-
-BY_ROOM = ("Quota", "NoRoom", "BookFull")
+from histories import Story
 
 
 class HistoryTest(unittest.TestCase):
     def test_on_one_drive(self):
-        for seed in range(12):
-            self.history(seed, Drives(1, 150), 120, False)
+        told = {}
+        for seed in range(14):
+            story = self.history(seed, Drives(1, 200), 150, False)
+            for deed, many in story.granted.items():
+                told[deed] = told.get(deed, 0) + many
+        self.assertGreater(min(told.values()), 8, told)
+        self.assertEqual(len(told), 18)
 
     def test_with_little_room(self):
         for seed in range(12):
@@ -30,59 +31,31 @@ class HistoryTest(unittest.TestCase):
             self.history(40 + seed, Drives(2 + seed % 2, 100), 90, True)
 
     def history(self, seed, drives, many, faults):
-        chance, plain = random.Random(seed), Plain()
-        pool = made_pool(drives, tag=seed)
-        last = pool.last
+        chance = random.Random(seed)
+        story = Story(self, chance, drives, tag=seed)
         for _ in range(many):
             if chance.random() < 0.08:
-                pool = self.again(pool, plain)
+                self.again(story)
             if faults and chance.random() < 0.3:
                 self.fault(chance, drives)
-            deed = plain.some_deed(chance)
-            self.one(pool, plain, deed, seed)
-            self.assertGreaterEqual(pool.last, last)
-            last = pool.last
-            if not faults:
-                check_pool(self, pool)
-        self.assertEqual(pool_told(pool), plain.all())
-        self.again(pool, plain)
+            story.one()
+            if not faults and chance.random() < 0.3:
+                story.whole()
+        self.again(story)
+        return story
 
-    def one(self, pool, plain, deed, seed):
-        expected, before = plain.refusal(*deed), all_seen(pool)
-        opened, committed = len(pool.opened), pool.last
-        told = refusal(call, pool, *deed)
-        if told is not None:
-            if expected is not None or told[0] not in BY_ROOM:
-                self.assertEqual(told, expected, (seed, deed))
-            self.assertEqual(all_seen(pool), before, (seed, deed))
-            return
-        self.assertIsNone(expected, (seed, deed))
-        plain.do(*deed)
-        self.assertEqual(len(pool.opened), opened % 8 + 1 if deed[0] in FILES else 0)
-        numbers = (1 if opened == 8 else 0) if deed[0] in FILES else bool(opened) + (deed[0] != "commit")
-        self.assertEqual(pool.last - committed, numbers)
-        if deed[0] in FILES:
-            root = deed[1]
-            self.assertEqual(pool_told(pool)[root], plain.all()[root], (seed, deed))
-
-    def again(self, pool, plain):
-        drives, opened, root = pool.drives, len(pool.opened), pool.root.number
-        pool = mount(drives)
-        self.assertEqual(pool.root.ahead if opened else pool.root.number, root)
-        self.assertEqual(pool_told(pool), plain.all())
+    def again(self, story):
+        story.pool = mount(story.drives)
+        story.plain.mounted(story.pool)
+        story.like()
         # What waited for a write of the mending is met by now, or by that of one of the next mounts.
-        begun = drives.begun()
-        while True:
-            pool = mount(drives)
-            if drives.begun() == begun:
-                break
-            begun = drives.begun()
-        self.assertEqual(pool_told(pool), plain.all())
-        check_pool(self, pool)
-        for place, kind, number in promised_rows(pool):
-            for drive in range(drives.many):
-                self.assertTrue(fits(drives.cell(drive, place), kind, place, number), (place, drive))
-        return pool
+        begun = None
+        while begun != story.drives.begun():
+            begun = story.drives.begun()
+            story.mount()
+        for place, kind, number in promised_rows(story.pool):
+            for drive in range(story.drives.many):
+                self.assertTrue(fits(story.drives.cell(drive, place), kind, place, number), (place, drive))
 
     def fault(self, chance, drives):
         drive, places = drives.many - 1, range(41 + drives.room)
@@ -100,6 +73,23 @@ class HistoryTest(unittest.TestCase):
             wipe(drives, drive)
         elif kind == "off":
             drives.turn(drive, not drives.is_on(drive))
+
+
+class StreamsTest(unittest.TestCase):
+    """Streams go between two pools, and from pool to pool again."""
+
+    def test_two_pools(self):
+        received = 0
+        for seed in range(10):
+            chance, streams = random.Random(seed), {}
+            stories = [Story(self, chance, Drives(1, 250), tag=tag, streams=streams) for tag in (seed, 100 + seed)]
+            for at in range(240):
+                story = chance.choice(stories)
+                story.one()
+                if at % 10 == 0:
+                    story.whole()
+            received += sum(story.granted.get("receive", 0) for story in stories)
+        self.assertGreater(received, 30)
 
 
 if __name__ == "__main__":

@@ -65,6 +65,17 @@ LISTED = {
     "salvage": ["salvage(drives)"],
     "volumes": ["make_volume(pool, name, *, quota=0)", "set_quota(pool, vol, quota)", "destroy(pool, vol)"],
     "snapshots": ["snapshot(pool, vol, snap)", "clone(pool, root, name, *, quota=0)", "rollback(pool, vol)"],
+    "drops": ["drop(pool, root)", "handed_on(book, root)"],
+    "promotes": ["promote(pool, vol)"],
+    "rewinds": ["rewind(pool)"],
+    "roomtold": ["room(pool)", "free_cells(pool)", "referred(pool, root)", "written(pool, root)",
+                 "unique(pool, root)", "freed_by(pool, roots)", "used(pool, vol)", "freed_pairs(standing, idents)"],
+    "intervals": ["least_drops(pool, vol, wanted)"],
+    "touched": ["touched(pool, one, other)", "differ(pool, one, other)", "is_above(book, high, low)",
+                "touched_keys(standing, high, low)"],
+    "parcels": ["sent(pool, root, *, base=None)", "checked(stream)", "made_stream(base, mark, rows)"],
+    "receiving": ["receive(pool, stream, vol, snap)"],
+    "joins": ["joined(one, two)"],
 }
 
 

@@ -14,6 +14,8 @@ METHODS = set("""append clear copy count endswith extend find get index insert i
 isupper items join keys ljust lower lstrip partition pop remove replace reverse rfind rjust rpartition rsplit rstrip
 setdefault split splitlines startswith strip update upper values zfill bit_length""".split())
 
+LIBRARY = {"itertools": ("combinations",)}
+
 STATEMENTS = (ast.FunctionDef, ast.ClassDef, ast.Assign, ast.AugAssign, ast.If, ast.While, ast.For, ast.Return,
               ast.Break, ast.Continue, ast.Pass, ast.Raise, ast.Delete, ast.Try, ast.Expr, ast.ImportFrom)
 
@@ -68,11 +70,17 @@ class FilesTest(unittest.TestCase):
 
 class ImportsTest(unittest.TestCase):
     def imports(self, name):
-        return [node for node in tree_of(name).body if isinstance(node, ast.ImportFrom)]
+        """The imports from the package."""
+        told = [node for node in tree_of(name).body if isinstance(node, ast.ImportFrom)]
+        return [node for node in told if node.module not in LIBRARY]
 
     def test_imports_name_the_file_that_defines(self):
         for name, node in nodes(ast.Import, ast.ImportFrom):
             self.assertIsInstance(node, ast.ImportFrom, name)
+            if node.module in LIBRARY:
+                self.assertEqual([(alias.name in LIBRARY[node.module], alias.asname) for alias in node.names],
+                                 [(True, None)] * len(node.names), name)
+                continue
             package, _, module = node.module.partition(".")
             self.assertEqual((package, node.level), ("bornroots", 0), name)
             defined = []

@@ -5,13 +5,13 @@ import random
 import unittest
 
 from bornroots.drives import Drives
-from bornroots.errors import Off
 from bornroots.faults import rot, wipe
 from bornroots.mount import made_pool, mount
+from bornroots.parcels import sent
 from bornroots.promised import promised_rows
 
-from histories import Plain, call, pool_told
-from pools import all_seen, check_pool
+from histories import Plain, Story, call, pool_told
+from pools import check_pool
 from refusals import OFF, refusal
 
 ALL = 3 ** 40
@@ -22,9 +22,28 @@ ROW = [
     ("clone", "a@s", "b"), ("unlink", "b", "/d/f"), ("write", "a", "/h", 0, [9]), ("write", "a", "/h", 0, [8]),
     ("write", "a", "/h", 0, [8]), ("move", "b", "/d", "/e"), ("write", "a", "/h", 1, [7]), ("cut", "a", "/h", 1),
     ("file", "b", "/e/x"), ("file", "b", "/e/y"), ("folder", "b", "/e/z"), ("snapshot", "b", "t"),
-    ("unlink", "b", "/e/x"), ("rollback", "b"), ("set_quota", "b", 30), ("unlink", "a", "/h"), ("make_volume", "c"),
-    ("file", "c", "/x"), ("destroy", "c"), ("rollback", "a"),
+    ("unlink", "b", "/e/x"), ("rollback", "b"), ("set_quota", "b", 60), ("unlink", "a", "/h"), ("make_volume", "c"),
+    ("file", "c", "/x"), ("destroy", "c"), ("rollback", "a"), ("write", "b", "/e/x", 0, [3]), ("promote", "b"),
+    ("snapshot", "a", "u"), ("promote", "a"), ("file", "a", "/z"), ("drop", "a@u"), ("drop", "b@t"), ("rewind",),
+    ("rewind",), ("file", "a", "/y"), ("rewind",), ("unlink", "b", "/e/x"), ("receive", "full", "c", "x"),
+    ("receive", "more", "c", "y"), ("cut", "b", "/e/y", 1), ("drop", "c@x"),
 ]
+
+
+def row_begun():
+    """(ROW with the streams in the place of their names, a plain telling that knows them)."""
+    pool, plain, given = made_pool(Drives(1, 60), tag=9), Plain(7), {}
+    for name, deeds in (("full", [("make_volume", "a"), ("file", "a", "/q"), ("snapshot", "a", "s")]),
+                        ("more", [("write", "a", "/q", 3, [4]), ("snapshot", "a", "t")])):
+        other = Plain(9)
+        for deed in deeds:
+            call(pool, *deed)
+        given[name] = sent(pool, deeds[-1][1] + "@" + deeds[-1][2], base="a@s" if name == "more" else None)
+        for deed in [("make_volume", "a"), ("file", "a", "/q"), *([("write", "a", "/q", 3, [4])] * (name == "more"))]:
+            other.do(*deed)
+        plain.streams[given[name]] = other.volumes["a"].head
+    row = [deed if deed[0] != "receive" else (deed[0], given[deed[1]], *deed[2:]) for deed in ROW]
+    return row, plain
 
 
 def writes_of(pool, deed):
@@ -43,8 +62,9 @@ class LossTest(unittest.TestCase):
         self.row(2, MASKS[1:])
 
     def row(self, many, masks):
-        pool, plain = made_pool(Drives(many, 60), tag=7), Plain()
-        for deed in ROW:
+        pool = made_pool(Drives(many, 80), tag=7)
+        row, plain = row_begun()
+        for deed in row:
             before = plain.all()
             self.assertIsNone(plain.refusal(*deed))
             plain.do(*deed)
@@ -71,8 +91,9 @@ class LossTest(unittest.TestCase):
 
     def test_the_last_write_whole_counts_and_the_first_one_not_at_all_does_not(self):
         for many in (1, 2):
-            pool, plain = made_pool(Drives(many, 60)), Plain()
-            for deed in ROW:
+            pool = made_pool(Drives(many, 80), tag=7)
+            row, plain = row_begun()
+            for deed in row:
                 before, writes = plain.all(), writes_of(pool, deed)
                 plain.do(*deed)
                 for count, mask, told in ((writes, 0, plain.all()), (1, MASKS[1], before)):
@@ -88,7 +109,7 @@ class MountLossTest(unittest.TestCase):
 
     def test_each_write_of_a_mount(self):
         for mask in MASKS:
-            pool, plain = made_pool(Drives(2, 60), tag=7), Plain()
+            pool, plain = made_pool(Drives(2, 60), tag=7), Plain(7)
             for deed in ROW[:20]:
                 plain.do(*deed)
                 call(pool, *deed)
@@ -119,7 +140,7 @@ class MountLossTest(unittest.TestCase):
         self.assertEqual(pool_told(mount(pool.drives)), {"a": {"/": ["f", "g"], "/f": (1, []), "/g": (1, [])}})
 
     def test_each_write_of_taking_up_the_elder(self):
-        pool, plain, elder = made_pool(Drives(2, 60), tag=7), Plain(), None
+        pool, plain, elder = made_pool(Drives(2, 60), tag=7), Plain(7), None
         for deed in ROW[:7]:
             # The link and the cut behind the snapshot are open, and committed as one transaction.
             elder = plain.all() if deed[0] == "link" else elder
@@ -150,38 +171,15 @@ class HistoryTest(unittest.TestCase):
         self.assertGreater(cuts, 200)
 
     def history(self, chance, drives):
-        pool, plain, cuts = made_pool(drives), Plain(), 0
+        story = Story(self, chance, drives)
         for _ in range(80):
             if chance.random() < 0.2:
-                self.fault(chance, pool)
+                self.fault(chance, story.pool)
             if chance.random() < 0.25:
                 drives.arm(chance.randint(1, 25), chance.choice([*MASKS, chance.randrange(ALL)]))
-            deed = plain.some_deed(chance)
-            before = plain
-            try:
-                told = all_seen(pool)
-                if refusal(call, pool, *deed) in (None, OFF):
-                    plain = copy.deepcopy(before)
-                    plain.do(*deed)
-                else:
-                    self.assertEqual(all_seen(pool), told)
-                pool.need_running()
-            except Off:
-                cuts += 1
-                pool = self.again(chance, drives)
-                told = pool_told(pool)
-                self.assertIn(told, (before.all(), plain.all()))
-                plain = before if told == before.all() else plain
-        self.assertEqual(pool_told(pool), plain.all())
-        return cuts
-
-    def again(self, chance, drives):
-        while True:
-            try:
-                return mount(drives)
-            except Off:
-                if chance.random() < 0.3:
-                    drives.arm(chance.randint(1, 9), chance.randrange(ALL))
+            story.one()
+        story.like()
+        return story.cuts
 
     def fault(self, chance, pool):
         """A fault that leaves each promised row good on some drive."""
