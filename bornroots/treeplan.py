@@ -57,6 +57,14 @@ def size_of(records):
     return len(_blocks_above(records))
 
 
+def block_in(tree, address):
+    """The block (level, number) that a tree has in this cell, or None."""
+    for block in tree.places:
+        if tree.places[block][0] == address:
+            return block
+    return None
+
+
 def kind_of(level):
     """The kind of the rows of the blocks of a level."""
     return LEAF if level == LEAVES else BRANCH

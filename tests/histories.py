@@ -6,11 +6,13 @@ from bornroots.commit import commit
 from bornroots.desk import cut_to, link, make_file, make_folder, move, unlink, write
 from bornroots.drops import drop
 from bornroots.errors import Refused
+from bornroots.faults import lose, rot, stray, wipe
 from bornroots.mount import made_pool, mount
 from bornroots.parcels import checked, sent
 from bornroots.promotes import promote
 from bornroots.receiving import receive
 from bornroots.rewinds import rewind
+from bornroots.rows import is_good
 from bornroots.snapshots import clone, rollback, snapshot
 from bornroots.state import Pool
 from bornroots.views import names, read, told
@@ -313,6 +315,24 @@ def is_changed(pool, vol):
     head = next(book.roots[volume.head] for volume in book.volumes.values() if volume.name == vol)
     is_written = pool.records_of(head) != pool.root.trees[head.ident].records
     return is_written or head.top != book.roots[head.prev].top
+
+
+def some_fault(chance, drives, drive, kinds):
+    """A fault of one of these kinds on a drive."""
+    places = range(41 + drives.room)
+    kind, place = chance.choice(kinds), chance.choice(places)
+    if kind == "rot":
+        good = [at for at in places if is_good(drives.cell(drive, at))]
+        if good:
+            rot(drives, drive, chance.choice(good), chance.randrange(5), chance.randint(1, 1000002))
+    elif kind == "lose":
+        lose(drives, drive, place)
+    elif kind == "stray":
+        stray(drives, drive, place, chance.choice(places))
+    elif kind == "wipe" and chance.random() < 0.3:
+        wipe(drives, drive)
+    elif kind == "off":
+        drives.turn(drive, not drives.is_on(drive))
 
 
 class Story:

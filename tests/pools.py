@@ -8,7 +8,6 @@ from bornroots.deedsmake import with_file
 from bornroots.drives import Drives
 from bornroots.namecodes import name_of
 from bornroots.plan import Step, book_step, content_step
-from bornroots.rows import fits
 from bornroots.roots import Book, Root, Volume, volume_named
 from bornroots.sound import is_sound
 from bornroots.space import Standing
@@ -202,8 +201,7 @@ def check_pool(test, pool):
         test.assertEqual(pool.root.ahead, pool.elder.number)
         test.assertEqual(pool.root.area, (pool.elder.area + 1) % 3)
     for i in range(len(pool.opened)):
-        row = pool.drives.cell(pool.drives.drives_on()[0], 33 + i)
-        test.assertTrue(fits(row, 3, 33 + i, pool.root.number))
+        test.assertIsNotNone(pool.drives.fitting(3, 33 + i, pool.root.number))
     for ident, records in pool.opened:
         test.assertTrue(is_sound(records))
         test.assertIn(ident, pool.root.book.volumes)

@@ -3,7 +3,10 @@
 from itertools import combinations
 
 from bornroots.drops import handed_on
+from bornroots.hits import hits
+from bornroots.holders import holders, holders_right
 from bornroots.intervals import least_drops
+from bornroots.papers import letgo_paper, letgo_right, untouched_right
 from bornroots.roomtold import free_cells, freed_by, freed_pairs, referred, room, unique, used, written
 from bornroots.touched import differ, is_above, touched, touched_keys
 
@@ -225,3 +228,81 @@ def check_ways(test, pool, raw):
                 test.assertEqual(touched_keys(pool.root, roots[one], roots[other]), raw.touched(one, other))
             else:
                 test.assertEqual(refusal(touched, pool, *texts), ("NoBase", texts[0]))
+
+
+def check_papers(test, pool, chance):
+    """Every answer of points 12.4 and 13, and that papers are right exactly if what they say is so."""
+    raw = raws_of(pool)[0]
+    cells = raw.cells()
+    for place in range(41, 41 + raw.room):
+        if place not in cells:
+            test.assertEqual((hits(pool, place), holders(pool, place)), ((), None))
+    for place in chance.sample(sorted(cells), min(12, len(cells))):
+        test.assertEqual(hits(pool, place), raw.hits(place))
+        paper = raw.holders(place)
+        test.assertEqual(holders(pool, place), paper)
+        test.assertIs(holders_right(pool, paper), True)
+        for other in [*like_holders(paper, sorted(raw.roots)), *[some_change(chance, paper) for _ in range(6)]]:
+            test.assertIs(holders_right(pool, other), raw.is_held(other), (paper, other))
+    for ident in [0, max(raw.roots, default=0) + 1, *raw.roots]:
+        check_letgo(test, pool, raw, ident, chance)
+    for one in raw.roots:
+        for other in raw.roots:
+            goes = one == other or raw.is_above(one, other)
+            still = set(range(512)) - set(raw.touched(one, other)) if goes else set()
+            for key in {*chance.sample(range(512), 8), -1, 0, 7, 8, 9, 511, 512, *raw.touched(one, other)}:
+                test.assertIs(untouched_right(pool, (one, other, key)), key in still, (one, other, key))
+
+
+def like_holders(paper, roots):
+    """Papers that are a holders paper but for one part."""
+    address, birth, key, level, ident, idents = paper
+    told = []
+    for number in (address - 1, address + 1, -1, 0, 10 ** 9):
+        told.append((number, birth, key, level, ident, idents))
+    for number in (birth - 1, birth + 1, -1, 0, 10 ** 9):
+        told.append((address, number, key, level, ident, idents))
+    for number in (key - 1, key + 1, key + 7, key + 8, key + 64, 0, -1, 511, 512, 10 ** 9):
+        told.append((address, birth, number, level, ident, idents))
+    for number in (level - 1, level + 1, -1, 0, 3, 4, 10 ** 9):
+        told.append((address, birth, key, number, ident, idents))
+    for number in (0, -1, 10 ** 9, *roots):
+        told.append((address, birth, key, level, number, idents))
+    for many in range(len(idents)):
+        told.append((address, birth, key, level, ident, (*idents[:many], *idents[many + 1:])))
+        told.append((address, birth, key, level, ident, (*idents[:many], idents[many], *idents[many:])))
+    told += [(address, birth, key, level, ident, idents[::-1]), (address, birth, key, level, ident, ())]
+    for more in (0, -1, 10 ** 9, *roots):
+        told.append((address, birth, key, level, ident, tuple(sorted({*idents, more}))))
+    return told
+
+
+def some_change(chance, paper):
+    """A paper with some of its parts changed by chance."""
+    told = list(paper)
+    for at in chance.sample(range(5), chance.randint(1, 3)):
+        told[at] += chance.choice([-8, -1, 0, 0, 1, 8])
+    told[5] = tuple(sorted(chance.sample(range(12), chance.randint(1, 4)))) if chance.random() < 0.3 else told[5]
+    return tuple(told)
+
+
+def check_letgo(test, pool, raw, ident, chance):
+    if ident not in raw.droppable():
+        for pairs in ((), tuple(raw.freed([ident]) if ident in raw.roots else ())):
+            test.assertIs(letgo_right(pool, (ident, pairs)), False)
+        return
+    pairs = tuple(raw.freed([ident]))
+    test.assertEqual(letgo_paper(pool, raw.roots[ident]["text"]), (ident, pairs))
+    test.assertIs(letgo_right(pool, (ident, pairs)), True)
+    for other in like_pairs(pairs, sorted(raw.pairs(raw.roots)), chance):
+        test.assertIs(letgo_right(pool, (ident, other)), other == pairs, other)
+
+
+def like_pairs(pairs, every, chance):
+    """Tuples of pairs that are these but for one thing."""
+    told = [pairs[::-1], (*pairs, (0, 0)), (), tuple(sorted([*pairs, chance.choice(every)]))]
+    for at, (address, birth) in enumerate(pairs[:6]):
+        told += [(*pairs[:at], *pairs[at + 1:]), (*pairs[:at], pairs[at], *pairs[at:]),
+                 (*pairs[:at], (address + 1, birth), *pairs[at + 1:]),
+                 (*pairs[:at], (address, birth - 1), *pairs[at + 1:]), (*pairs[at:], *pairs[:at])]
+    return told

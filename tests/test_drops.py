@@ -20,7 +20,7 @@ from test_snapshots import NO_ROOTS
 
 
 def chain_pool(names="stuv", room=120):
-    """A pool with a volume a, a file of which is written anew ahead of each of its snapshots and behind the last one."""
+    """A pool with a volume a, a file of which is written ahead of each of its snapshots and behind the last one."""
     pool = made_pool(Drives(1, room), tag=7)
     make_volume(pool, "a")
     make_file(pool, "a", "/f")

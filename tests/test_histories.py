@@ -4,12 +4,11 @@ import random
 import unittest
 
 from bornroots.drives import Drives
-from bornroots.faults import lose, rot, stray, wipe
 from bornroots.mount import mount
 from bornroots.promised import promised_rows
-from bornroots.rows import fits, is_good
+from bornroots.rows import fits
 
-from histories import Story
+from histories import Story, some_fault
 
 
 class HistoryTest(unittest.TestCase):
@@ -37,7 +36,7 @@ class HistoryTest(unittest.TestCase):
             if chance.random() < 0.08:
                 self.again(story)
             if faults and chance.random() < 0.3:
-                self.fault(chance, drives)
+                some_fault(chance, drives, drives.many - 1, ["rot", "rot", "lose", "stray", "wipe", "off"])
             story.one()
             if not faults and chance.random() < 0.3:
                 story.whole()
@@ -56,23 +55,6 @@ class HistoryTest(unittest.TestCase):
         for place, kind, number in promised_rows(story.pool):
             for drive in range(story.drives.many):
                 self.assertTrue(fits(story.drives.cell(drive, place), kind, place, number), (place, drive))
-
-    def fault(self, chance, drives):
-        drive, places = drives.many - 1, range(41 + drives.room)
-        kind = chance.choice(["rot", "rot", "lose", "stray", "wipe", "off"])
-        place = chance.choice(places)
-        if kind == "rot":
-            good = [at for at in places if is_good(drives.cell(drive, at))]
-            if good:
-                rot(drives, drive, chance.choice(good), chance.randrange(5), chance.randint(1, 1000002))
-        elif kind == "lose":
-            lose(drives, drive, place)
-        elif kind == "stray":
-            stray(drives, drive, place, chance.choice(places))
-        elif kind == "wipe" and chance.random() < 0.2:
-            wipe(drives, drive)
-        elif kind == "off":
-            drives.turn(drive, not drives.is_on(drive))
 
 
 class StreamsTest(unittest.TestCase):

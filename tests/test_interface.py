@@ -76,6 +76,16 @@ LISTED = {
     "parcels": ["sent(pool, root, *, base=None)", "checked(stream)", "made_stream(base, mark, rows)"],
     "receiving": ["receive(pool, stream, vol, snap)"],
     "joins": ["joined(one, two)"],
+    "scrub": ["scrub(pool)"],
+    "onoff": ["off(pool, drive)", "on(pool, drive)"],
+    "hits": ["hits(pool, place)"],
+    "papers": ["letgo_paper(pool, root)", "letgo_right(pool, paper)", "untouched_right(pool, paper)"],
+    "holders": ["holders(pool, address)", "holders_right(pool, paper)"],
+    "sayswords": ["words_of(line)", "number_told(word, line)"],
+    "saysfiles": ["says_files(pool, line)"],
+    "saysroots": ["says_roots(pool, line)"],
+    "saysrooms": ["says_rooms(pool, line)"],
+    "sayscare": ["says_care(pool, line)"],
 }
 
 

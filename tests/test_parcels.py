@@ -169,7 +169,8 @@ class CheckedTest(unittest.TestCase):
             self.bad(closed(*with_at(FULL, at, FULL[at][:2])[:-1]), at)
         for key in (7, 8, 0):
             self.bad(closed(*FULL[:2], (2, key, 6, 1), (2, min(key, 8), 1, 1, 0)), 2 if key == 0 else 3)
-        self.bad(closed((1, 7, 4, 7, 7, 1), (2, 8, *[1] * 17)), 1)
+        for parcel in (*wrong, (2, 8, *[1] * 17)):
+            self.bad(closed((1, 7, 4, 7, 7, 1), parcel), 1)
         self.assertEqual(checked(closed((1, 7, 4, 7, 7, 1), (2, 8)))[2], [(8, ())])
 
     def test_the_last_parcel(self):

@@ -163,6 +163,13 @@ class PromoteTest(Case):
                 self.assertEqual((used(pool, "b"), pool.root.book.volumes[3].quota), (12, quota))
                 check_answers(self, pool)
 
+    def test_the_least_quota(self):
+        pool = example_pool(snap=True)
+        clone(pool, "a@s", "b", quota=1)
+        self.refused(pool, ("Quota", "b"), promote, "b")
+        set_quota(pool, "b", 7)
+        promote(pool, "b")
+
     def test_the_way_back_may_be_barred(self):
         pool = clone_pool()
         set_quota(pool, "a", 12)

@@ -17,7 +17,7 @@ from bornroots.volumes import make_volume, set_quota
 
 from books import seen
 from histories import Story
-from pools import check_pool, contents, example_pool, filled, head_root
+from pools import check_pool, contents, filled, head_root
 from rawpool import check_answers
 from refusals import refusal
 from rootdeeds import NO_NAMES, Case

@@ -5,7 +5,7 @@ from bornroots.commit import commit
 from bornroots.desk import cut_to, make_file, unlink, write
 from bornroots.drives import Drives
 from bornroots.mount import mount
-from bornroots.snapshots import clone, rollback, snapshot
+from bornroots.snapshots import rollback, snapshot
 from bornroots.touched import differ, is_above, touched, touched_keys
 from bornroots.volumes import make_volume
 
