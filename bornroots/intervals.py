@@ -30,7 +30,7 @@ def least_drops(pool, vol, wanted):
 def _shares(standing, idents):
     """From the places of those of the roots that hold a pair to how many pairs just these roots have."""
     shares = {}
-    held = [{pair: True for pair in standing.trees[ident].pairs()} for ident in idents]
+    held = [{one: True for one in standing.trees[ident].pairs()} for ident in idents]
     for pair in freed_pairs(standing, idents):
         holders = tuple([at for at in range(len(idents)) if pair in held[at]])
         shares[holders] = shares.get(holders, 0) + 1

@@ -22,6 +22,7 @@ from pools import all_seen, check_pool
 from rawpool import check_answers
 from records import Table, some_deed
 from refusals import OFF, refusal
+from rooms import room_refusal
 
 FILES = {"file": make_file, "folder": make_folder, "link": link, "unlink": unlink, "move": move, "write": write,
          "cut": cut_to}
@@ -33,7 +34,6 @@ ROOTS = {"make_volume": make_volume, "set_quota": set_quota, "destroy": destroy,
 # The deeds on roots, and commit, as often as they come by chance.
 OFTEN = ["make_volume", "set_quota", "destroy", "rollback", "rewind", "commit", "commit", "drop", "drop", "clone",
          "clone", *3 * ["snapshot", "promote", "receive"]]
-BY_ROOM = ("Quota", "NoRoom", "BookFull")
 
 
 def call(pool, name, *given):
@@ -246,7 +246,7 @@ class Plain:
         if deed == "make_volume":
             return (chance.choice("abcdef"),)
         if deed == "set_quota":
-            return (vol, chance.choice([0, 0, 20, 40, 60]))
+            return (vol, chance.choice([0, 0, 9, 12, 16, 20, 40]))
         if deed == "snapshot":
             return (vol, chance.choice("stuv"))
         if deed in ("clone", "drop"):
@@ -342,7 +342,7 @@ class Story:
         self.test, self.chance, self.drives = test, chance, drives
         self.pool, self.plain = made_pool(drives, tag=tag), Plain(tag)
         self.plain.streams = {} if streams is None else streams
-        self.cuts, self.granted = 0, {}
+        self.cuts, self.granted, self.refused = 0, {}, {}
 
     def expected(self, deed):
         told = self.plain.refusal(*deed)
@@ -357,15 +357,16 @@ class Story:
         if self.chance.random() < 0.15:
             self.send()
         expected, before = self.expected(deed), all_seen(self.pool)
+        by_room = room_refusal(self.pool, deed) if expected is None else None
         told = refusal(call, self.pool, *deed)
         if told == OFF:
             self.cut(deed)
         elif told is not None:
-            if expected is not None or told[0] not in BY_ROOM:
-                self.test.assertEqual(told, expected, deed)
+            self.test.assertEqual(told, expected or by_room, deed)
+            self.refused[told[0]] = self.refused.get(told[0], 0) + 1
             self.test.assertEqual(all_seen(self.pool), before, deed)
         else:
-            self.test.assertIsNone(expected, deed)
+            self.test.assertIsNone(expected or by_room, deed)
             self.plain.do(*deed)
             self.granted[deed[0]] = self.granted.get(deed[0], 0) + 1
             self.like()

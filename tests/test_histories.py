@@ -22,8 +22,12 @@ class HistoryTest(unittest.TestCase):
         self.assertEqual(len(told), 18)
 
     def test_with_little_room(self):
+        refused = {}
         for seed in range(12):
-            self.history(20 + seed, Drives(1, 40), 120, False)
+            story = self.history(20 + seed, Drives(1, 40), 120, False)
+            for name, many in story.refused.items():
+                refused[name] = refused.get(name, 0) + many
+        self.assertGreater(min(refused["Quota"], refused["NoRoom"]), 20, refused)
 
     def test_with_faults_on_the_last_drive(self):
         for seed in range(12):

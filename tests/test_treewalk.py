@@ -4,8 +4,9 @@ from bornroots.drives import Drives
 from bornroots.faults import rot
 from bornroots.rows import half_of, made_row
 from bornroots.treeplan import Tree, grown
-from bornroots.treewalk import walked
+from bornroots.treewalk import book_walked, walked
 
+from books import book_with
 from refusals import refusal
 
 RECORDS = {0: (2, 0), 7: (6, 1), 8: (1, 1, 0), 64: (5,), 511: (1000002,) * 16}
@@ -160,6 +161,23 @@ class WalkTest(unittest.TestCase):
         with self.assertRaises(TypeError):
             walked(drives, tree.top(), (0,))
         self.assertIsNone(refusal(walked, drives, tree.top(), only=(0,)))
+
+
+class BookTest(unittest.TestCase):
+    def test_all_trees_and_what_is_lost_of_them(self):
+        drives, tree = drives_with(2)
+        book = book_with(4, [("a", 0, 1)], [(1, 1, None, 2, 0, (0, 0), tree.top(), ()),
+                                            (2, 1, "s", 0, 3, (7, 3), (44, 2), ()),
+                                            (3, 1, "t", 2, 4, (7, 4), (0, 0), ())])
+        trees, lost = book_walked(drives, book)
+        self.assertEqual(([sorted(trees), lost], trees[1].records, trees[2].records, trees[3].records),
+                         ([[1, 2, 3], []], RECORDS, {0: (2, 0)}, {}))
+        for place in (41, 43):
+            rot(drives, 0, place, 0, 1)
+        self.assertEqual(book_walked(drives, book)[1], [])
+        self.assertEqual(book_walked(drives, book, only=(1,))[1], [])
+        # The leaf in 41 stands in both trees, the mid in 43 in the old one alone, and hides the leaf there.
+        self.assertEqual(sorted(book_walked(drives, book, only=(0,))[1]), [41, 43])
 
 
 if __name__ == "__main__":
